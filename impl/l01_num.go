@@ -19,6 +19,10 @@ func Cap(n int) int {
 	return n
 }
 
+func amountOk(n int) bool {
+	return n >= 0 && n <= MaxNum
+}
+
 func Add(a int, b int) int {
 	return sumOf(a, b)
 }

@@ -339,3 +339,16 @@ func TestNoTwoListsOfAnOppositeAreOne(t *testing.T) {
 		t.Errorf("what was done to one list is seen in another: %+v", got)
 	}
 }
+
+func TestRulesWithoutAnEndAreJudged(t *testing.T) {
+	l := make([]impl.Pol, 2)
+	l[0] = andPol(l...)
+	l[1] = impl.Pol{Kind: 12, L: l}
+	impl.Wants(l[0], judgedTrail(), 0)
+	if keep, took := impl.Judge(l[1], judgedTrail(), 9); keep || took != 0 {
+		t.Errorf("another Kind: %v, %d", keep, took)
+	}
+	if got := impl.Opposite(l[0]); got.Kind != impl.PoNot || got.L[0].Kind != impl.PoAnd {
+		t.Error("its Opposite is not its not")
+	}
+}

@@ -129,6 +129,8 @@ func TestPutRefuses(t *testing.T) {
 		{"At below Now", timer(9, 12)},
 		{"At 0", timer(9, 0)},
 		{"At below 0", timer(9, -1)},
+		{"At a round below 0", timer(9, -9)},
+		{"At many rounds below 0", timer(9, -85)},
 		{"the least At", timer(9, math.MinInt)},
 		{"one above MaxNum", timer(9, impl.MaxNum+1)},
 		{"the greatest At", timer(9, math.MaxInt)},
