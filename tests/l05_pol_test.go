@@ -325,24 +325,54 @@ func TestRulesAreLeftAsTheyWere(t *testing.T) {
 	}
 }
 
+// How deep a rule may be is PolOk's business alone.
 func TestRulesAreNeverTooDeep(t *testing.T) {
-	const deep = 200000
-	p, q := nested(ratePol, deep), nested(allPol, deep)
-	if impl.PolOk(p) || impl.PolText(p) != "" {
-		t.Error("it is right")
-	}
-	if got := impl.PolCount(p); got != deep {
-		t.Errorf("PolCount is %d, want %d", got, deep)
-	}
-	if !impl.HasRate(p) || impl.HasRate(q) {
-		t.Error("HasRate does not look at the innermost one")
-	}
-	if !impl.SamePol(p, p) || impl.SamePol(p, q) {
-		t.Error("SamePol does not look at the innermost one")
+	for _, deep := range []int{1000, 1<<20 - 1, 1 << 20, 1<<20 + 1, 1<<20 + 2} {
+		p, q := nested(ratePol, deep), nested(allPol, deep)
+		if impl.PolOk(p) || impl.PolText(p) != "" {
+			t.Errorf("%d deep: it is right", deep)
+		}
+		if got := impl.PolCount(p); got != deep {
+			t.Errorf("PolCount is %d, want %d", got, deep)
+		}
+		if !impl.HasRate(p) || impl.HasRate(q) {
+			t.Errorf("%d deep: HasRate does not look at the innermost one", deep)
+		}
+		if !impl.SamePol(p, p) || impl.SamePol(p, q) || impl.SamePol(p, nested(ratePol, deep+1)) {
+			t.Errorf("%d deep: SamePol does not look at the innermost one", deep)
+		}
 	}
 }
 
-// A list that holds itself makes a rule without an end; all that can be asked is that each call has one.
+func TestRulesBehindDeepOnes(t *testing.T) {
+	const deep = 1<<20 + 1
+	p, q := orPol(nested(allPol, deep), ratePol), orPol(nested(allPol, deep), errPol)
+	if got := impl.PolCount(p); got != deep+2 {
+		t.Errorf("PolCount is %d, want %d", got, deep+2)
+	}
+	if !impl.HasRate(p) || impl.HasRate(q) || impl.SamePol(p, q) {
+		t.Error("what stands behind a deep rule is not looked at")
+	}
+}
+
+// Rules that lie side by side in memory, each in the next one, are as deep as any others; none is in itself.
+func TestRulesOfOnePieceOfMemory(t *testing.T) {
+	for _, n := range []int{2, 3, 4, 5, 8, 9, 100, 1025} {
+		l := make([]impl.Pol, n)
+		l[0] = ratePol
+		for i := 1; i < n; i++ {
+			l[i] = orPol(l[i-1 : i]...)
+		}
+		if got := impl.PolCount(l[n-1]); got != n || !impl.HasRate(l[n-1]) {
+			t.Errorf("PolCount is %d, want %d", got, n)
+		}
+		if got := impl.PolCount(andPol(l[n-1], l[n-1])); got != 2*n+1 {
+			t.Errorf("one that is twice there: PolCount is %d, want %d", got, 2*n+1)
+		}
+	}
+}
+
+// A list that holds itself makes a rule without an end; all that can be asked is that each call has one, and what is clear ahead of that.
 func TestRulesWithoutAnEnd(t *testing.T) {
 	l := make([]impl.Pol, 2)
 	l[0] = andPol(l...)
@@ -353,11 +383,33 @@ func TestRulesWithoutAnEnd(t *testing.T) {
 	if impl.HasRate(l[0]) {
 		t.Error("it has a rate")
 	}
-	if impl.PolCount(l[0]) < 1000000 {
+	if impl.PolCount(l[0]) < 2 {
 		t.Error("it is short")
 	}
 	if !impl.SamePol(l[0], l[0]) {
 		t.Error("it is not the same as itself")
+	}
+}
+
+func TestRulesThatLeadIntoARound(t *testing.T) {
+	for ahead := range 12 {
+		for round := 1; round < 12; round++ {
+			l := make([]impl.Pol, ahead+round)
+			for i := range l {
+				next := i + 1
+				if next == len(l) {
+					next = ahead
+				}
+				l[i] = andPol(l[next : next+1]...)
+			}
+			p := orPol(ratePol, l[0])
+			if impl.PolOk(p) || !impl.HasRate(p) || impl.HasRate(l[0]) || impl.PolCount(l[0]) < ahead+round {
+				t.Errorf("%d, then a round of %d", ahead, round)
+			}
+			if !impl.SamePol(p, p) || impl.SamePol(p, orPol(errPol, l[0])) {
+				t.Errorf("%d, then a round of %d: SamePol", ahead, round)
+			}
+		}
 	}
 }
 

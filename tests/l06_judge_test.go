@@ -315,19 +315,23 @@ func TestOppositeIsNewMemory(t *testing.T) {
 }
 
 func TestDeepRulesAreJudged(t *testing.T) {
-	const deep = 200001
-	p := nested(errPol, deep)
-	if !impl.Wants(p, judgedTrail(), 0) || impl.Wants(notPol(p), judgedTrail(), 0) {
-		t.Error("so many nots, an even number of them, are not nothing")
-	}
-	if keep, took := impl.Judge(p, judgedTrail(), 9); !keep || took != 0 {
-		t.Errorf("Judge is %v, %d", keep, took)
-	}
-	if got := impl.PolCount(impl.Opposite(p)); got != deep-1 {
-		t.Errorf("its Opposite has %d rules", got)
-	}
-	if got := impl.PolCount(impl.Opposite(andPol(p))); got != deep+2 {
-		t.Errorf("the Opposite of what it is in has %d rules", got)
+	for _, deep := range []int{1001, 1<<20 + 1, 1<<20 + 3} {
+		p := nested(errPol, deep)
+		if !impl.Wants(p, judgedTrail(), 0) || impl.Wants(notPol(p), judgedTrail(), 0) {
+			t.Errorf("%d deep: so many nots, an even number of them, are not nothing", deep)
+		}
+		if keep, took := impl.Judge(p, judgedTrail(), 9); !keep || took != 0 {
+			t.Errorf("%d deep: Judge is %v, %d", deep, keep, took)
+		}
+		if keep, took := impl.Judge(nested(ratePol, deep), judgedTrail(), 9); !keep || took != len(judgedTrail()) {
+			t.Errorf("%d deep, a rate innermost: Judge is %v, %d", deep, keep, took)
+		}
+		if got := impl.PolCount(impl.Opposite(p)); got != deep-1 {
+			t.Errorf("its Opposite has %d rules", got)
+		}
+		if got := impl.Opposite(andPol(nested(ratePol, deep))); impl.PolCount(got) != deep+2 || !impl.HasRate(got) {
+			t.Errorf("the Opposite of what it is in has %d rules", impl.PolCount(got))
+		}
 	}
 }
 
